@@ -1,0 +1,1 @@
+"""Deliveries along a street with deadlines."""
