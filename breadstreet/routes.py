@@ -1,6 +1,6 @@
-"""Sweeping routes to a set of shops, and the best of them.
+"""Sweeping routes to a set of shops, the best of them, and the set that wants the most loaves.
 
-A shop is anything with a position and a deadline; shops are told by their place in the list.
+A shop is anything with a position, a deadline and loaves; shops are told by their place in the list.
 """
 
 
@@ -60,3 +60,42 @@ def best_route_to(shops, chosen, departure):
             if best is None or finish < best[0]:
                 best = (finish, route)
     return best
+
+
+# No departure above the limit is asked for, so a route without shops spares just that.
+def time_to_spare(shops, route, limit):
+    times = times_along(shops, route, 0)
+    return min([limit] + [shops[i].deadline - arrival for i, arrival in zip(route, times)])
+
+
+# Each arrival is later by as much as the van leaves later: what a route spares when the van
+# leaves at 0 is the latest time to leave for it. Below 0 there is no such time.
+def latest_departure_to(shops, chosen, limit):
+    return max([time_to_spare(shops, route, limit) for route in sweeping_routes(shops, chosen)])
+
+
+def loaves_of(shops, chosen):
+    return sum([shops[i].loaves for i in chosen])
+
+
+def number_of_sets(shops):
+    return 1 << len(shops)
+
+
+def members_of(mask, shops):
+    return [i for i in range(len(shops)) if (mask >> i) & 1 == 1]
+
+
+# Gives back the loaves of the richest set and its best route. The empty set has a best route
+# whatever the deadlines are, and its bitmask is the smallest.
+def richest_route(shops, departure):
+    richest = (0, [])
+    for mask in range(1, number_of_sets(shops)):
+        chosen = members_of(mask, shops)
+        loaves = loaves_of(shops, chosen)
+        # A later set with the same loaves must not push out the one with the smaller bitmask.
+        if loaves > richest[0]:
+            best = best_route_to(shops, chosen, departure)
+            if best is not None:
+                richest = (loaves, best[1])
+    return richest

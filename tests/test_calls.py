@@ -6,16 +6,9 @@ import unittest
 
 from breadstreet.van import answers
 from tests.requests import (
-    EDGES, HIGHEST, LOAVES, LOWEST, NUMBERS, POSITIONS, TIMES, asked, building, flat, state_after,
+    EDGES, HIGHEST, LOAVES, LOWEST, NO_INDEX_OF_THREE, NUMBERS, POSITIONS, SEVEN, THREE, TIMES, asked, building, flat,
+    last, state_after,
 )
-
-THREE = [(-5, 40, 10), (8, 20, 20), (-12, 60, 5)]
-SEVEN = [(-3, 299, 1), (-2, 298, 2), (-1, 297, 3), (0, 296, 4), (1, 295, 5), (2, 294, 6), (3, 293, 7)]
-NO_INDEX_OF_THREE = (3, 4, 7, -1, -2, -3, 299, LOWEST, HIGHEST)
-
-
-def last(calls):
-    return asked(calls)[-1]
 
 
 class Create(unittest.TestCase):
@@ -52,18 +45,25 @@ class NoInstance(unittest.TestCase):
         calls = [
             ("add_shop", -5, 40, 10), ("remove_shop", 0), ("set_position", 0, 1), ("set_deadline", 0, 1),
             ("set_loaves", 0, 1), ("set_departure", 1), ("earliest_finish",), ("best_route",),
+            ("arrival_times", []), ("check_route", []), ("max_loaves",), ("earliest_finish_of", 0),
+            ("latest_departure",), ("return_time",), ("earliest_finish_without", 0), ("describe",),
         ]
-        self.assertEqual(len(calls), len(NUMBERS) - 1)
+        self.assertEqual([NUMBERS[call[0]] for call in calls], list(range(1, 17)))
         self.assertEqual(asked(calls), [[-11]] * len(calls))
+        self.assertEqual(asked([("create", -1)] + calls), [[-22]] + [[-11]] * len(calls))
 
     def test_checked_ahead_of_every_other_error(self):
         calls = [
             ("add_shop", 100, 300, -1), ("remove_shop", -1), ("set_position", -1, 100), ("set_deadline", 7, 300),
             ("set_loaves", 7, 100), ("set_departure", 300), ("set_departure", LOWEST),
         ]
+        for name in ("arrival_times", "check_route"):
+            calls += [(name, route) for route in ([0], [-1], [0, 0], [LOWEST, HIGHEST, HIGHEST], [HIGHEST] * 70)]
+        for wrong in (1, 128, -1, LOWEST, HIGHEST):
+            calls += [("earliest_finish_of", wrong), ("earliest_finish_without", wrong)]
         self.assertEqual(asked(calls), [[-11]] * len(calls))
 
-    def test_calls_of_later_numbers_are_passed_over_too(self):
+    def test_the_call_behind_a_refused_one_is_found(self):
         calls = [9, 3, 8, 1, 0] + [10, 0] + [11] + [12, -1] + [13] + [14] + [15, 0] + [16]
         self.assertEqual(answers(calls + [0, 7, 7]), [1, -11] * 8 + [1, 0, 1, 7])
 
@@ -198,12 +198,29 @@ class SetDeparture(unittest.TestCase):
                 self.assertEqual(state_after(calls, 3), (departure if allowed else 10, THREE))
 
 
+class Guarded(list):
+    """A list that fails where it is changed, for a while too."""
+
+    def refuse(self, *given, **named):
+        raise AssertionError("what is handed in is changed")
+
+    __setitem__ = __delitem__ = __iadd__ = __imul__ = refuse
+    append = extend = insert = pop = remove = clear = sort = reverse = refuse
+
+
 class Interface(unittest.TestCase):
     REQUEST = (
         [("best_route",), ("create", 300)] + building(10, THREE)
-        + [("best_route",), ("set_deadline", 0, 16), ("best_route",), ("remove_shop", 0), ("earliest_finish",)]
+        + [("best_route",), ("arrival_times", [0, 2, 1]), ("check_route", []), ("set_deadline", 0, 16)]
+        + [("best_route",), ("max_loaves",), ("latest_departure",), ("arrival_times", [3]), ("remove_shop", 0)]
+        + [("earliest_finish",), ("return_time",), ("earliest_finish_of", 4), ("earliest_finish_of", 1)]
+        + [("earliest_finish_without", 2), ("earliest_finish_without", 1), ("arrival_times", []), ("describe",)]
     )
-    ANSWERS = [1, -11, 1, -22, 1, 0, 1, 0, 1, 1, 1, 2, 4, 38, 1, 0, 2, 1, 40, 1, -33, 1, 2, 1, 38]
+    ANSWERS = [
+        1, -11, 1, -22, 1, 0, 1, 0, 1, 1, 1, 2, 4, 38, 1, 0, 2, 4, 3, 15, 22, 42, 3, 1, 10, 0, 1, 40,
+        1, -33, 3, 25, 1, 2, 1, 2, 1, -22, 1, 2, 1, 38, 1, 50, 1, -22, 1, 18, 1, -2, 1, 18, 1, 0,
+        8, 10, 2, 8, 20, 20, -12, 60, 5,
+    ]
 
     def test_counts_stand_ahead_of_the_answers(self):
         self.assertEqual(answers(flat(self.REQUEST)), self.ANSWERS)
@@ -222,17 +239,24 @@ class Interface(unittest.TestCase):
         self.assertEqual(calls, before)
         self.assertEqual(first, second)
 
+    def test_the_list_is_not_changed_for_a_while_either(self):
+        self.assertEqual(answers(Guarded(flat(self.REQUEST))), self.ANSWERS)
+
     def test_what_is_given_back_is_not_kept(self):
         answers(flat(self.REQUEST)).append(1)
         self.assertEqual(answers(flat(self.REQUEST)), self.ANSWERS)
 
     def test_no_instance_is_kept_for_the_next_time(self):
         answers(flat(building(10, THREE)))
-        self.assertEqual(asked([("earliest_finish",)]), [[-11]])
+        self.assertEqual(asked([("earliest_finish",), ("describe",)]), [[-11], [-11]])
 
     def test_sixty_calls(self):
         calls = [("create", 0)] + [("set_departure", i) for i in range(1, 60)]
         self.assertEqual(asked(calls), [[0]] + [[i] for i in range(59)])
+
+    def test_sixty_calls_of_seventy_numbers(self):
+        calls = [("create", 0)] + [("check_route", [HIGHEST] * 70)] * 58 + [("describe",)]
+        self.assertEqual(asked(calls), [[0]] + [[-22]] * 58 + [[0, 0]])
 
     def test_prints_nothing(self):
         out, err = io.StringIO(), io.StringIO()

@@ -3,84 +3,12 @@
 import itertools
 import unittest
 
-from tests.requests import asked, building, state_after
-
-EXAMPLE = [(-5, 40, 10), (8, 20, 20), (-12, 60, 5)]
-
-
-def shops_at(*places):
-    """Shops as (position, deadline), with some loaves put to each."""
-    return [(position, deadline, 1) for position, deadline in places]
+from tests.requests import THREE, asked, building, drawn, drawn_instance, searched, shops_at, state_after
 
 
 def asked_for_route(departure, shops):
     told = asked(building(departure, shops) + [("earliest_finish",), ("best_route",)])
     return told[-2], told[-1]
-
-
-def finish_on_time(departure, shops, route):
-    """The time at which the route is finished; None where it is not on time."""
-    now, place = departure, 0
-    for i in route:
-        now += abs(shops[i][0] - place)
-        place = shops[i][0]
-        if now > shops[i][1]:
-            return None
-    return now
-
-
-def is_sweeping(shops, route):
-    left = [(-shops[i][0], i) for i in route if shops[i][0] < 0]
-    right = [(shops[i][0], i) for i in route if shops[i][0] >= 0]
-    return left == sorted(left) and right == sorted(right)
-
-
-def searched(departure, shops):
-    """The least finish over all orders, and the best route; None where there is none."""
-    least, best = None, None
-    for route in itertools.permutations(range(len(shops))):
-        finish = finish_on_time(departure, shops, route)
-        if finish is None:
-            continue
-        if least is None or finish < least:
-            least = finish
-        if is_sweeping(shops, route):
-            # False comes ahead of True: the left ahead of the right at the first difference.
-            key = (finish, [shops[i][0] >= 0 for i in route], list(route))
-            if best is None or key < best:
-                best = key
-    return least, None if best is None else best[2]
-
-
-def drawn(seed, how_many):
-    """The same many numbers every time, spread well enough for instances."""
-    numbers = []
-    for _ in range(how_many):
-        seed = (seed * 1103515245 + 12345) % 2147483648
-        numbers.append(seed // 65536)
-    return numbers
-
-
-def drawn_instance(seed):
-    numbers = drawn(seed, 20)
-    count = numbers[0] % 6
-    reach = (2, 4, 9, 99)[numbers[1] % 4]
-    departure = numbers[2] % 8
-    shops = []
-    for i in range(count):
-        position = numbers[3 + 3 * i] % (2 * reach + 1) - reach
-        # From what can't be met to what hardly matters.
-        deadline = min(299, departure + abs(position) + numbers[4 + 3 * i] % (4 * reach) - 1)
-        shops.append((position, max(0, deadline), numbers[5 + 3 * i] % 100))
-    return departure, shops
-
-
-class Examples(unittest.TestCase):
-    def test_the_document_s_rows(self):
-        calls = building(10, EXAMPLE) + [
-            ("best_route",), ("set_deadline", 0, 16), ("best_route",), ("set_position", 3, 0),
-        ]
-        self.assertEqual(asked(calls), [[0], [0], [1], [2], [38, 1, 0, 2], [40], [-33], [-2]])
 
 
 class BestRoute(unittest.TestCase):
@@ -166,7 +94,7 @@ class BestRoute(unittest.TestCase):
         self.check_none(0, zigzag[:6] + shops_at((4, 27)))
 
     def test_a_change_is_seen_at_once(self):
-        calls = building(10, EXAMPLE) + [
+        calls = building(10, THREE) + [
             ("best_route",), ("set_departure", 12), ("best_route",), ("set_departure", 13), ("best_route",),
             ("set_deadline", 1, 299), ("best_route",), ("set_position", 1, -30), ("best_route",),
             ("set_loaves", 1, 0), ("best_route",), ("remove_shop", 0), ("best_route",), ("earliest_finish",),
@@ -178,7 +106,7 @@ class BestRoute(unittest.TestCase):
         ])
 
     def test_queries_leave_the_instance(self):
-        for departure, shops in ((10, EXAMPLE), (13, EXAMPLE), (5, [])):
+        for departure, shops in ((10, THREE), (13, THREE), (5, [])):
             for query in ("earliest_finish", "best_route"):
                 with self.subTest(departure=departure, query=query):
                     calls = building(departure, shops) + [(query,), (query,)]
@@ -189,7 +117,7 @@ class BestRoute(unittest.TestCase):
 
 class AllOrders(unittest.TestCase):
     def check(self, departure, shops):
-        least, route = searched(departure, shops)
+        least, route = searched(departure, shops, range(len(shops)))
         expected = ([-33], [-33]) if route is None else ([least], [least] + route)
         self.assertEqual(route is None, least is None)
         self.assertEqual(asked_for_route(departure, shops), expected, (departure, shops))
